@@ -2,6 +2,7 @@ package tests
 
 import (
 	"math"
+	"slices"
 	"testing"
 
 	"loop.example/g00542/impl"
@@ -60,7 +61,7 @@ func wrongNumbers(most int64) []int64 {
 	for _, high := range []int64{1 << 8, 1 << 16, 1 << 31, 1 << 32, 1 << 62} {
 		wrong = append(wrong, high, high+1, high+most, -high, most-high)
 	}
-	return wrong
+	return slices.DeleteFunc(wrong, func(n int64) bool { return n >= 0 && n <= most })
 }
 
 func wantNext(t *testing.T, state int64, back bool, sign int64, want int64) {
